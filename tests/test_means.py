@@ -56,6 +56,12 @@ class LeastMeanTest(unittest.TestCase):
         for stock in [NONE, ((1, 0),), ((9, 9),)]:
             self.assertEqual(least_mean(rests(), stock, [(1,)]), (3, 2))
 
+    def test_goods_that_keep_longer_than_the_row(self):
+        shop = Shop([1, 4], [(4, (0, 4)), (2, (0, 1))], 1, [[(0, 0)]])
+        self.assertEqual(least_mean(shop, ((0,), (0, 0, 0, 0)), [(0, 1)]), (1, 1))
+        self.assertEqual(least_mean(shop, ((0,), (0, 0, 0, 0)), [(0, 1), (0, 1), (0, 1)]), (1, 1))
+        self.assertEqual(least_mean(shop, ((0,), (0, 0, 0, 0)), [(0, 2), (0, 0), (0, 0)]), (2, 3))
+
     def test_goods_that_no_pattern_gives(self):
         shop = Shop([1, 2], [(3, (1, 0))], 2, [[(0, 0)]])
         self.assertEqual(least_mean(shop, ((0,), (0, 0)), [(2, 0)]), (6, 1))
