@@ -109,7 +109,7 @@ def stock_behind(shop, stock, orders, day, plan):
 
 def mean_paper(shop, stock, orders):
     """Return a mean paper that shows the least mean, ascending, or None if there is none."""
-    states = sorted(Round(shop, orders).states((0, stock)))
+    states = sorted(Round(shop, orders).reached_from((0, stock)))
     graph = LeanGraph(shop, orders, states)
     found = least_ring(graph.links)
     if found is None:

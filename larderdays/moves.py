@@ -34,7 +34,7 @@ class Round:
         self._steps = Steps([[order] for order in orders])
         self._moves = all_moves(shop)
 
-    def states(self, first):
+    def reached_from(self, first):
         """Return the states that choices lead to from one on, this one among them, as they are met."""
         return states_from(self._steps, [gain for gain, _ in self._moves], first)
 
